@@ -1,0 +1,85 @@
+package impl
+
+const (
+	MaxText = 65536
+	MaxList = 4096
+	MaxName = 40
+
+	OK         = 0
+	ErrBad     = 1
+	ErrLong    = 2
+	ErrForm    = 3
+	ErrRange   = 4
+	ErrNone    = 5
+	ErrMany    = 6
+	ErrFull    = 7
+	ErrSum     = 8
+	ErrTwice   = 9
+	ErrSealed  = 10
+	ErrStale   = 11
+	ErrCorrupt = 12
+	ErrAway    = 13
+	ErrReplay  = 14
+	ErrOrder   = 15
+	ErrPath    = 16
+	ErrKind    = 17
+	ErrQuorum  = 18
+	ErrSpent   = 19
+)
+
+var codeWords = [...]string{
+	OK:         "ok",
+	ErrBad:     "bad",
+	ErrLong:    "long",
+	ErrForm:    "form",
+	ErrRange:   "range",
+	ErrNone:    "none",
+	ErrMany:    "many",
+	ErrFull:    "full",
+	ErrSum:     "sum",
+	ErrTwice:   "twice",
+	ErrSealed:  "sealed",
+	ErrStale:   "stale",
+	ErrCorrupt: "corrupt",
+	ErrAway:    "away",
+	ErrReplay:  "replay",
+	ErrOrder:   "order",
+	ErrPath:    "path",
+	ErrKind:    "kind",
+	ErrQuorum:  "quorum",
+	ErrSpent:   "spent",
+}
+
+func NameOK(t string) bool {
+	if len(t) < 1 || len(t) > MaxName || isDigit(t[0]) {
+		return false
+	}
+	for i := range len(t) {
+		if !isLetter(t[i]) && !isDigit(t[i]) {
+			return false
+		}
+	}
+	return true
+}
+
+func isLetter(c byte) bool {
+	return c >= 'a' && c <= 'z' || c >= 'A' && c <= 'Z' || c == '_'
+}
+
+func isDigit(c byte) bool { return c >= '0' && c <= '9' }
+
+func CodeWord(code int) string {
+	if code < 0 || code >= len(codeWords) {
+		return ""
+	}
+	return codeWords[code]
+}
+
+func CodeOf(word string) int {
+	for code, w := range codeWords {
+		if w == word {
+			return code
+		}
+	}
+	return -1
+}
