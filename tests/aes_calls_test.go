@@ -203,33 +203,9 @@ func everyCall(seed stream) string {
 }
 
 func TestP1AlikeArgumentsHaveAlikeAnswers(t *testing.T) {
-	var first []string
-	for i := range 300 {
-		first = append(first, everyCall(stream(i)))
-	}
-	for i := 299; i >= 0; i-- {
-		if again := everyCall(stream(i)); again != first[i] {
-			t.Fatalf("answers hang on what was called ahead:\n%s\n%s", first[i], again)
-		}
-	}
+	alikeAnswers(t, everyCall)
 }
 
 func TestP1ManyAtOnce(t *testing.T) {
-	want := everyCall(1)
-	got := make([]string, 16)
-	done := make(chan int)
-	for i := range got {
-		go func() {
-			got[i] = everyCall(1)
-			done <- i
-		}()
-	}
-	for range got {
-		<-done
-	}
-	for _, g := range got {
-		if g != want {
-			t.Fatal("answers hang on what is called meanwhile")
-		}
-	}
+	alikeAtOnce(t, everyCall)
 }

@@ -42,3 +42,38 @@ func (s *stream) text(n int) string {
 func (s *stream) column() []int {
 	return []int{int(s.next()), int(s.next()), int(s.next()), int(s.next())}
 }
+
+// alikeAnswers calls with many seeds, then with the same ones in the other order.
+func alikeAnswers(t *testing.T, call func(seed stream) string) {
+	t.Helper()
+	var first []string
+	for i := range 300 {
+		first = append(first, call(stream(i)))
+	}
+	for i := 299; i >= 0; i-- {
+		if again := call(stream(i)); again != first[i] {
+			t.Fatalf("answers hang on what was called ahead:\n%s\n%s", first[i], again)
+		}
+	}
+}
+
+func alikeAtOnce(t *testing.T, call func(seed stream) string) {
+	t.Helper()
+	want := call(1)
+	got := make([]string, 16)
+	done := make(chan int)
+	for i := range got {
+		go func() {
+			got[i] = call(1)
+			done <- i
+		}()
+	}
+	for range got {
+		<-done
+	}
+	for _, g := range got {
+		if g != want {
+			t.Fatal("answers hang on what is called meanwhile")
+		}
+	}
+}
