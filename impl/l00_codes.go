@@ -83,3 +83,11 @@ func CodeOf(word string) int {
 	}
 	return -1
 }
+
+// appendNumber appends size bytes, the higher ones first; n is not negative, and fits into them.
+func appendNumber(b []byte, n, size int) []byte {
+	for i := size - 1; i >= 0; i-- {
+		b = append(b, byte(n>>(8*i)))
+	}
+	return b
+}
