@@ -91,3 +91,31 @@ func appendNumber(b []byte, n, size int) []byte {
 	}
 	return b
 }
+
+// reader takes numbers and texts off the beginning of bytes. Once there are too few it tells noughts and is short, so that who reads need look only at the end.
+type reader struct {
+	rest  []byte
+	short bool
+}
+
+func (in *reader) take(size int) []byte {
+	if len(in.rest) < size {
+		in.rest, in.short = nil, true
+		return make([]byte, size)
+	}
+	out := in.rest[:size]
+	in.rest = in.rest[size:]
+	return out
+}
+
+func (in *reader) number(size int) int {
+	n := 0
+	for _, c := range in.take(size) {
+		n = n<<8 | int(c)
+	}
+	return n
+}
+
+func (in *reader) text(size int) string { return string(in.take(size)) }
+
+func (in *reader) ended() bool { return !in.short && len(in.rest) == 0 }
